@@ -55,6 +55,25 @@ var noLattices = map[string][]int{
 	"all one":                    {7, 7, 7},
 }
 
+// checkValid holds ValidLattice against the words of the document for all
+// lists of the choices, and counts the lattices.
+func checkValid(t *testing.T, choices [][]int, want int) {
+	t.Helper()
+	count := 0
+	choose(choices, func(up []int) {
+		got := impl.ValidLattice(up)
+		if got != plainLattice(up) {
+			t.Fatalf("ValidLattice(%v) = %t", up, got)
+		}
+		if got {
+			count++
+		}
+	})
+	if count != want {
+		t.Errorf("%d lattices of %d elements, want %d", count, len(choices), want)
+	}
+}
+
 // TestValidLatticeSmall tries all numbers, some outside the bounds among them.
 func TestValidLatticeSmall(t *testing.T) {
 	for n, want := range map[int]int{1: 1, 2: 1, 3: 1, 4: 3} {
@@ -62,43 +81,20 @@ func TestValidLatticeSmall(t *testing.T) {
 		for x := range choices {
 			choices[x] = numbersFrom(-1, 1<<n+1)
 		}
-		count := 0
-		choose(choices, func(up []int) {
-			got := impl.ValidLattice(up)
-			if got != plainLattice(up) {
-				t.Fatalf("ValidLattice(%v) = %t", up, got)
-			}
-			if got {
-				count++
-			}
-		})
-		if count != want {
-			t.Errorf("%d lattices of %d elements, want %d", count, n, want)
-		}
+		checkValid(t, choices, want)
 	}
 }
 
-// TestValidLatticeLarge tries all likely numbers, and lattices with one bit
-// changed. The counts are those of the posets of the elements between the
-// least and the greatest one, less 6 of 4 that lack meets.
+// TestValidLatticeLarge tries all likely numbers. The counts are those of the
+// posets of the elements between the least and the greatest one, less 6 of 4
+// that lack meets.
 func TestValidLatticeLarge(t *testing.T) {
 	for n, want := range map[int]int{5: 19, 6: 213} {
-		count := 0
-		choose(likelyNumbers(n), func(up []int) {
-			got := impl.ValidLattice(up)
-			if got != plainLattice(up) {
-				t.Fatalf("ValidLattice(%v) = %t", up, got)
-			}
-			if got {
-				count++
-			}
-		})
-		if count != want {
-			t.Errorf("%d lattices of %d elements, want %d", count, n, want)
-		}
+		checkValid(t, likelyNumbers(n), want)
 	}
 }
 
+// TestValidLatticeChangedBit tries all lattices with one bit changed.
 func TestValidLatticeChangedBit(t *testing.T) {
 	for _, up := range everyLattice() {
 		for x := range up {
