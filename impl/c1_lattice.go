@@ -154,18 +154,45 @@ func readLattice(up []int) (lattice, bool) {
 	return lattice{size: size, order: o, meets: meets, joins: joins}, true
 }
 
+// greatest is the greatest element.
+func (l lattice) greatest() int {
+	return l.size - 1
+}
+
+// elements are all elements, ascending.
+func (l lattice) elements() []int {
+	return elementsThat(l.size, func(int) bool { return true })
+}
+
+// has reports whether there are elements of all the numbers.
+func (l lattice) has(elements ...int) bool {
+	for _, x := range elements {
+		if x < 0 || x >= l.size {
+			return false
+		}
+	}
+	return true
+}
+
 // readLatticeWith reads the numbers of a lattice that has all the elements.
 func readLatticeWith(up []int, elements ...int) (lattice, bool) {
 	l, ok := readLattice(up)
-	if !ok {
+	if !ok || !l.has(elements...) {
 		return lattice{}, false
 	}
-	for _, x := range elements {
-		if x < 0 || x >= l.size {
-			return lattice{}, false
+	return l, true
+}
+
+// allTwo reports whether something holds of each two elements, both ways.
+func allTwo(size int, holds func(x, y int) bool) bool {
+	for x := range size {
+		for y := range size {
+			if !holds(x, y) {
+				return false
+			}
 		}
 	}
-	return l, true
+	return true
 }
 
 // upOf writes an order as the numbers that readOrder reads.
@@ -246,43 +273,33 @@ func CoversOf(up []int, x int) []int {
 	return elementsThat(l.size, func(y int) bool { return l.isCover(x, y) })
 }
 
+// isChain reports whether of each two elements one is at least the other one.
+func (l lattice) isChain() bool {
+	return allTwo(l.size, func(x, y int) bool { return l.order[x][y] || l.order[y][x] })
+}
+
 // IsChain reports whether all elements are comparable.
 func IsChain(up []int) bool {
 	l, ok := readLattice(up)
-	if !ok {
-		return false
-	}
-	for x := range l.size {
-		for y := range l.size {
-			if !l.order[x][y] && !l.order[y][x] {
+	return ok && l.isChain()
+}
+
+// goesOver reports whether t of x and joined elements is t of both, joined.
+func (t table) goesOver(joins table, size int) bool {
+	return allTwo(size, func(y, z int) bool {
+		for x := range size {
+			if t[x][joins[y][z]] != joins[t[x][y]][t[x][z]] {
 				return false
 			}
 		}
-	}
-	return true
-}
-
-// isDistributiveAt reports whether the meet with x goes over the join of y and z.
-func (l lattice) isDistributiveAt(x, y, z int) bool {
-	return l.meets[x][l.joins[y][z]] == l.joins[l.meets[x][y]][l.meets[x][z]]
+		return true
+	})
 }
 
 // IsDistributive reports whether meets go over joins.
 func IsDistributive(up []int) bool {
 	l, ok := readLattice(up)
-	if !ok {
-		return false
-	}
-	for x := range l.size {
-		for y := range l.size {
-			for z := range l.size {
-				if !l.isDistributiveAt(x, y, z) {
-					return false
-				}
-			}
-		}
-	}
-	return true
+	return ok && l.meets.goesOver(l.joins, l.size)
 }
 
 // ComplementsOf returns the complements of an element.
@@ -292,7 +309,7 @@ func ComplementsOf(up []int, x int) []int {
 		return nil
 	}
 	return elementsThat(l.size, func(y int) bool {
-		return l.meets[x][y] == 0 && l.joins[x][y] == l.size-1
+		return l.meets[x][y] == 0 && l.joins[x][y] == l.greatest()
 	})
 }
 
@@ -302,7 +319,7 @@ func TurnedLattice(up []int) []int {
 	if !ok {
 		return nil
 	}
-	last := l.size - 1
+	last := l.greatest()
 	return upOf(l.size, func(x, y int) bool { return l.order[last-y][last-x] })
 }
 
