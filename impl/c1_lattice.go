@@ -25,6 +25,16 @@ type lattice struct {
 	joins table
 }
 
+// isSetOf reports whether set is a sum of 2 to each of some of size elements.
+func isSetOf(size, set int) bool {
+	return set >= 0 && set < 1<<size
+}
+
+// isIn reports whether a set has the element x.
+func isIn(x, set int) bool {
+	return set>>x&1 == 1
+}
+
 // readOrder takes any numbers of elements that there are, since whether they
 // are an order is easier to tell from the array that it makes of them.
 func readOrder(up []int) (order, bool) {
@@ -33,11 +43,11 @@ func readOrder(up []int) (order, bool) {
 		return order{}, false
 	}
 	for x, set := range up {
-		if set < 0 || set >= 1<<len(up) {
+		if !isSetOf(len(up), set) {
 			return order{}, false
 		}
 		for y := range up {
-			o[x][y] = set>>y&1 == 1
+			o[x][y] = isIn(y, set)
 		}
 	}
 	return o, true
@@ -354,7 +364,7 @@ func upChoices(n, x int) []int {
 	}
 	var sets []int
 	for set := 1 << x; set <= full; set += 2 << x {
-		if set>>(n-1)&1 == 1 {
+		if isIn(n-1, set) {
 			sets = append(sets, set)
 		}
 	}
