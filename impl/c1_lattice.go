@@ -5,7 +5,8 @@ import "slices"
 // MaxSize is the largest number of elements.
 const MaxSize = 6
 
-// MaxList is the largest number of elements of which all lattices are listed.
+// MaxList is the largest number of elements of which all lattices and chains are
+// listed.
 const MaxList = 5
 
 // order tells at x and y whether the element y is at least x. It is false past
