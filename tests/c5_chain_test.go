@@ -244,7 +244,7 @@ func TestTextsPlain(t *testing.T) {
 		if got := impl.AlgebraText(a); got != text {
 			t.Fatalf("AlgebraText(%v) = %q", a, got)
 		}
-		for _, s := range changedTexts(text) {
+		for _, s := range changedTexts(text, algebraBytes) {
 			want, is := plainParse(s)
 			if got, ok := impl.ParseAlgebra(s); ok != is || !sameAlgebra(got, want) {
 				t.Fatalf("ParseAlgebra(%q) = %v, %t", s, got, ok)
@@ -381,7 +381,7 @@ func TestPromise52(t *testing.T) {
 	read := 0
 	for _, a := range []impl.Algebra{oneOnly, two2(), sum3, meet3, square4, drastic4, swapped4, stack5, late5, two3(), sums6()} {
 		text := plainText(a)
-		for _, s := range append(changedTexts(text), text) {
+		for _, s := range append(changedTexts(text, algebraBytes), text) {
 			b, ok := impl.ParseAlgebra(s)
 			if !ok {
 				continue

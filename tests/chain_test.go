@@ -278,9 +278,13 @@ var noTexts = map[string]string{
 	"many numbers and as many digits": strings.Repeat("1,", 19) + "1:" + strings.Repeat("0", 400),
 }
 
-// changedTexts are texts that differ from s by one byte that is gone, another
-// one, or one more, and by two neighbours that change places.
-func changedTexts(s string) []string {
+// algebraBytes are put into texts of algebras to spoil them.
+const algebraBytes = "0123569,:/ -+a\n\x00\xb0"
+
+// changedTexts are texts that differ from s by one byte that is gone, one of the
+// bytes in its place, or one of them more, and by two neighbours that change
+// places.
+func changedTexts(s, bytes string) []string {
 	var all []string
 	for i := range len(s) {
 		all = append(all, s[:i]+s[i+1:])
@@ -288,7 +292,8 @@ func changedTexts(s string) []string {
 			all = append(all, s[:i-1]+s[i:i+1]+s[i-1:i]+s[i+1:])
 		}
 	}
-	for _, b := range []string{"0", "1", "2", "3", "5", "6", "9", ",", ":", "/", " ", "-", "+", "a", "\n", "\x00", "\xb0"} {
+	for at := range len(bytes) {
+		b := bytes[at : at+1]
 		for i := range len(s) {
 			all = append(all, s[:i]+b+s[i+1:], s[:i]+b+s[i:])
 		}
